@@ -1,18 +1,23 @@
 """The calls on one bench: how they are read, refused and answered."""
 
+from benchturns.cycles import cycles_of, is_odd, times_to_be_still
 from benchturns.groups import GROUP_COUNT, Bench
 from benchturns.kinds import can_be_swapped, has_no_blocks, has_odd_turn, is_one_orbit
+from benchturns.made import closed_table, derived_table, joined_table, shared_table, takes_to_itself
 from benchturns.parts import block_parting, orbit_parting
-from benchturns.tables import goal_counts, makes, number_of, turn_at, turn_count
-from benchturns.turns import is_turn
+from benchturns.searches import class_count, shortest_word
+from benchturns.tables import goal_counts, least_before, makes, number_of, turn_at, turn_count
+from benchturns.turns import inverse, is_turn, power, product
 
 MOST_THINGS = 9
 MOST_GIVEN = 6
+MOST_SEARCHED = 1000
 
 NO_TURN = -1
 NOT_THERE = -2
 GROUP_IS_FULL = -3
 NONE_OF_THE_GROUP = -4
+TOO_MANY = -8
 
 
 def answer_new(bench, numbers, rows):
@@ -85,6 +90,85 @@ def answer_place(bench, numbers, rows):
     return [number_of(table, rows[0])]
 
 
+def answer_coset(bench, numbers, rows):
+    return least_before(bench.groups[numbers[0]].table, 0, rows[0])
+
+
+def answer_within(bench, numbers, rows):
+    outer = bench.groups[numbers[0]]
+    inner = bench.groups[numbers[1]]
+    return [
+        as_number(all([makes(outer.table, x) for x in inner.given])),
+        as_number(takes_to_itself(outer.given, inner.table, inner.given)),
+    ]
+
+
+def answer_word(bench, numbers, rows):
+    group = bench.groups[numbers[0]]
+    if not makes(group.table, rows[0]):
+        return [NONE_OF_THE_GROUP]
+    if turn_count(group.table) > MOST_SEARCHED:
+        return [TOO_MANY]
+    word = shortest_word(group.given, rows[0])
+    return [len(word)] + word
+
+
+def answer_class(bench, numbers, rows):
+    count = class_count(bench.groups[numbers[0]].given, rows[0], MOST_SEARCHED)
+    return [TOO_MANY if count > MOST_SEARCHED else count]
+
+
+def answer_normal(bench, numbers, rows):
+    given = bench.groups[numbers[0]].given
+    first = bench.groups[numbers[1]].given
+    return put_and_tell(bench, numbers[2], closed_table(bench.things, first, given))
+
+
+def answer_derived(bench, numbers, rows):
+    given = bench.groups[numbers[0]].given
+    return put_and_tell(bench, numbers[1], derived_table(bench.things, given))
+
+
+def answer_meet(bench, numbers, rows):
+    one = bench.groups[numbers[0]].table
+    other = bench.groups[numbers[1]].table
+    if turn_count(one) > MOST_SEARCHED:
+        return [TOO_MANY]
+    return put_and_tell(bench, numbers[2], shared_table(one, other))
+
+
+def answer_join(bench, numbers, rows):
+    one = bench.groups[numbers[0]].table
+    given = bench.groups[numbers[1]].given
+    return put_and_tell(bench, numbers[2], joined_table(one, given))
+
+
+def answer_mul(bench, numbers, rows):
+    return product(rows[0], rows[1])
+
+
+def answer_power(bench, numbers, rows):
+    return power(rows[0], numbers[0])
+
+
+def answer_inverse(bench, numbers, rows):
+    return inverse(rows[0])
+
+
+def answer_cycles(bench, numbers, rows):
+    x = rows[0]
+    told = [times_to_be_still(x), as_number(is_odd(x)), len(cycles_of(x))]
+    for cycle in cycles_of(x):
+        told.append(len(cycle))
+        told.extend(cycle)
+    return told
+
+
+def put_and_tell(bench, number, table):
+    bench.put(number, table)
+    return [turn_count(table), len(bench.groups[number].given)]
+
+
 def as_number(truth):
     return 1 if truth else 0
 
@@ -104,6 +188,18 @@ CALLS = (
     (("group",), 1, answer_has),
     (("group", "any number"), 0, answer_nth),
     (("group",), 1, answer_place),
+    (("group",), 1, answer_coset),
+    (("group", "group"), 0, answer_within),
+    (("group",), 1, answer_word),
+    (("group",), 1, answer_class),
+    (("group", "group", "group"), 0, answer_normal),
+    (("group", "group"), 0, answer_derived),
+    (("group", "group", "group"), 0, answer_meet),
+    (("group", "group", "group"), 0, answer_join),
+    ((), 2, answer_mul),
+    (("any number",), 1, answer_power),
+    ((), 1, answer_inverse),
+    ((), 1, answer_cycles),
 )
 
 

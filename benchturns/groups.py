@@ -1,5 +1,6 @@
 """What a bench keeps: how many things there are, and the four groups."""
 
+from benchturns.own import own_turns
 from benchturns.tables import add_turn, table_without_turns
 
 GROUP_COUNT = 4
@@ -28,3 +29,10 @@ class Bench:
 
     def empty(self, number):
         self.groups[number] = Group(self.things)
+
+    # The table is the group's alone from now on.
+    def put(self, number, table):
+        group = Group(self.things)
+        group.given = own_turns(table)
+        group.table = table
+        self.groups[number] = group

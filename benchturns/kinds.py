@@ -1,5 +1,6 @@
 """Of what kind a group is, told from the turns that it was given by."""
 
+from benchturns.cycles import is_odd
 from benchturns.parts import block_parting, is_all_in_one, orbit_parting
 from benchturns.turns import product
 
@@ -23,11 +24,6 @@ def can_be_swapped(given):
             if product(x, y) != product(y, x):
                 return False
     return True
-
-
-def is_odd(turn):
-    cycle_count = len(set(orbit_parting(len(turn), [turn])))
-    return (len(turn) - cycle_count) % 2 == 1
 
 
 # Turns made of turns that aren't odd aren't odd either.

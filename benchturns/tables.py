@@ -97,3 +97,23 @@ def number_of(table, x):
         goal = chosen.index(x[place])
         chosen = product(row[goal], chosen)
     return number
+
+
+# The least of all "first one that the rows from this one on make, then x":
+# place by place, the goal that x and what is chosen so far take lowest.
+def least_before(table, start, x):
+    chosen = x
+    for row in table[start:]:
+        lowest = min([chosen[goal] for goal in goals(row)])
+        chosen = product(row[chosen.index(lowest)], chosen)
+    return chosen
+
+
+def all_turns(table):
+    made = [still_turn(len(table))]
+    for row in table:
+        longer = []
+        for goal in goals(row):
+            longer.extend([product(row[goal], chosen) for chosen in made])
+        made = longer
+    return made

@@ -21,6 +21,28 @@ def inverse(x):
     return undone
 
 
+def power(x, times):
+    made = still_turn(len(x))
+    doubled = x
+    rest = times
+    while rest > 0:
+        if rest % 2 == 1:
+            made = product(made, doubled)
+        doubled = product(doubled, doubled)
+        rest = rest // 2
+    return made
+
+
+# Undo y, then x, then y.
+def taken_along(x, y):
+    return product(product(inverse(y), x), y)
+
+
+# Undo x, undo y, then x, then y.
+def commutator(x, y):
+    return product(inverse(x), taken_along(x, y))
+
+
 # As many as there are things, if the turn is still.
 def places_left_before_moving(x):
     for place, goal in enumerate(x):

@@ -2,7 +2,9 @@
 
 faults(files) takes a dict of file names within the package and their texts,
 and gives (rule, file, line) for each place. Where a rule allows more than
-this program needs, the narrower form is asked for.
+this program needs, the narrower form is asked for: no errors raised or taken,
+no lambda and no def within a def, no keyword in a call, no isinstance, and of
+the methods with two underscores __init__ alone.
 """
 
 import ast
@@ -10,7 +12,7 @@ import builtins
 import re
 
 PACKAGE = "benchturns"
-CALLABLE = ("len range enumerate zip min max sum abs sorted reversed int str bool list tuple dict set frozenset isinstance "
+CALLABLE = ("len range enumerate zip min max sum abs sorted reversed int str bool list tuple dict set frozenset "
             "ord repr any all divmod").split()
 ERRORS = ("Exception ValueError TypeError KeyError IndexError LookupError ZeroDivisionError ArithmeticError OverflowError "
           "RuntimeError NotImplementedError AttributeError StopIteration").split()
@@ -19,11 +21,9 @@ METHODS = ("append clear copy count endswith extend find get index insert isalnu
            "setdefault split splitlines startswith strip update upper values zfill bit_length").split()
 CHANGING = "append clear extend insert pop remove reverse setdefault update".split()
 VALUES_ALSO = "count index title find get join lower upper split strip copy add".split()
-DUNDERS = "__init__ __eq__ __repr__ __str__ __len__".split()
+DUNDERS = ["__init__"]
 WALKED = "zip enumerate reversed range".split()
 WALKERS = "list tuple dict sorted sum any all enumerate zip min max".split()
-KEYWORDS = {"sorted": ("key", "reverse"), "min": ("key", "default"), "max": ("key", "default"), "sum": ("start",),
-            "enumerate": ("start",), "zip": ("strict",)}
 NOWHERE = "register mro elements open input version_info with_traceback add_note format format_map".split()
 NOT_NAMES = ("attrgetter breakpoint builtins compile copyright credits delattr dir eval exec exit gc getattr globals hasattr "
              "help id importlib license locals methodcaller os quit setattr super type vars sys print chr").split()
@@ -31,12 +31,11 @@ WORDS = ("type typing typing_extensions enum Enum IntEnum StrEnum Flag IntFlag G
          "NamedTuple TypedDict TYPE_CHECKING abstractmethod").split()
 PARTS_OF_WORDS = ("dataclass", "overload", "contextmanager")
 NO_FILES = "test tests testing site conftest sitecustomize usercustomize".split() + WORDS
-STATEMENTS = (ast.Assign, ast.AugAssign, ast.If, ast.While, ast.For, ast.Return, ast.Break, ast.Continue, ast.Pass, ast.Raise,
-              ast.Try, ast.Expr, ast.FunctionDef)
+STATEMENTS = (ast.Assign, ast.AugAssign, ast.If, ast.While, ast.For, ast.Return, ast.Break, ast.Continue, ast.Pass, ast.Expr,
+              ast.FunctionDef)
 EXPRESSIONS = (ast.Constant, ast.List, ast.Tuple, ast.Dict, ast.Set, ast.BinOp, ast.UnaryOp, ast.BoolOp, ast.Compare,
                ast.IfExp, ast.Call, ast.Attribute, ast.Subscript, ast.Slice, ast.ListComp, ast.JoinedStr, ast.FormattedValue,
-               ast.Name, ast.Lambda)
-DEFS = (ast.FunctionDef, ast.Lambda)
+               ast.Name)
 OWN_OF_PYTHON = {name for kind in (str, int, list, tuple, dict, set, frozenset, bytes) for name in vars(kind)}
 PLAIN_NAME = re.compile(r"[A-Za-z][A-Za-z0-9_]*\Z")
 
@@ -188,8 +187,10 @@ def lists_of_the_top(file):
 
 
 def functions_and_classes(file):
-    for node in file.of(*DEFS):
+    for node in file.of(ast.FunctionDef):
         args = node.args
+        if not isinstance(node.above, (ast.Module, ast.ClassDef)):
+            yield "L4", node.lineno
         if args.vararg or args.kwarg or args.kwonlyargs or args.posonlyargs or getattr(node, "decorator_list", None):
             yield "L4", node.lineno
         if any(not is_plain(value, []) for value in args.defaults):
@@ -219,7 +220,9 @@ def statements(file):
     for node in file.of(ast.stmt):
         if isinstance(node.above, ast.Module) or isinstance(node, ast.ClassDef):
             continue
-        if not isinstance(node, STATEMENTS):
+        if isinstance(node, (ast.Try, ast.Raise)):
+            yield "L19", node.lineno
+        elif not isinstance(node, STATEMENTS):
             yield "L6", node.lineno
         elif isinstance(node, ast.Expr) and not isinstance(node.value, ast.Call) and not is_docstring(node):
             yield "L6", node.lineno
@@ -227,12 +230,6 @@ def statements(file):
             yield "L6", node.lineno
         elif isinstance(node, (ast.For, ast.While)) and node.orelse:
             yield "L6", node.lineno
-        elif isinstance(node, ast.Try) and node.finalbody:
-            yield "L6", node.lineno
-    for node in file.of(ast.ExceptHandler):
-        names = [part.id for part in ast.walk(node.type) if isinstance(part, ast.Name)] if node.type else []
-        if not names or any(name in ERRORS and name not in ("KeyError", "ZeroDivisionError", "StopIteration") for name in names):
-            yield "L19", node.lineno
 
 
 def expressions(file):
@@ -275,12 +272,6 @@ def numbers_and_texts(file):
         asked = isinstance(node.above, ast.Compare) and isinstance(node.above.ops[0], (ast.In, ast.NotIn))
         if len(node.elts) > 2 and not asked:
             yield "L13", node.lineno
-    seen = []
-    for node in file.of(ast.Lambda):
-        key = (node.lineno, [arg.arg for arg in node.args.args])
-        if key in seen:
-            yield "L13", node.lineno
-        seen.append(key)
 
 
 def names_bound(file):
@@ -289,9 +280,6 @@ def names_bound(file):
             yield node.id, node
     for node in file.of(ast.arg):
         yield node.arg, node
-    for node in file.of(ast.ExceptHandler):
-        if node.name:
-            yield node.name, node
     for node in file.of(ast.FunctionDef):
         if not isinstance(node.above, ast.ClassDef):
             yield node.name, node
@@ -299,7 +287,7 @@ def names_bound(file):
         yield node.name, node
 
 
-def names(file):
+def names(file, classes):
     bound = list(names_bound(file))
     for name, node in bound:
         if not PLAIN_NAME.match(name) and name not in ("__all__", "__version__"):
@@ -314,19 +302,18 @@ def names(file):
             yield "L17", node.lineno
         elif node.id not in known:
             yield "L8", node.lineno
-        if node.id in CALLABLE and not (isinstance(node.above, ast.Call) and node.above.func is node):
-            if not isinstance(node.above, ast.keyword) and called(node.above) != "isinstance":
-                yield "L22", node.lineno
-        if node.id in file.classes and not isinstance(node.above, (ast.Call, ast.ClassDef, ast.Raise, ast.ExceptHandler)):
+        is_called = isinstance(node.above, ast.Call) and node.above.func is node
+        if node.id in CALLABLE and not is_called:
+            yield "L22", node.lineno
+        if node.id in classes and not is_called and not isinstance(node.above, ast.ClassDef):
             yield "L18", node.lineno
 
 
 def calls(file):
     for node in file.of(ast.Call):
         name = called(node)
-        for word in node.keywords:
-            if name in CALLABLE + ERRORS and word.arg not in KEYWORDS.get(name, ()) or method_called(node) in METHODS:
-                yield "L22", node.lineno
+        if node.keywords:
+            yield "L22", node.lineno
         if name in WALKED or method_called(node) in ("items", "keys", "values"):
             above = node.above
             walked = isinstance(above, (ast.For, ast.comprehension)) and above.iter is node
@@ -371,7 +358,7 @@ def attributes(file, methods, kept):
             yield "L12", node.lineno
         elif is_call and node.attr not in METHODS + methods + DUNDERS:
             yield "L25", node.lineno
-        elif not is_call and node.attr not in kept and not isinstance(node.above, ast.keyword):
+        elif not is_call and node.attr not in kept:
             yield "L25", node.lineno
         if not isinstance(node.ctx, ast.Load):
             if node.attr in methods:
@@ -396,14 +383,9 @@ def own_methods(file):
 
 def methods_with_underscores(file):
     for node in file.of(ast.FunctionDef):
-        if node.name not in DUNDERS:
-            continue
-        inside = list(ast.walk(node))
-        if node.name == "__init__":
-            if any(isinstance(part, ast.Return) and part.value for part in inside):
-                yield "L28", node.lineno
-        elif any(isinstance(part, ast.AugAssign) or isinstance(part, (ast.Attribute, ast.Subscript))
-                 and not isinstance(part.ctx, ast.Load) or method_called(part) in CHANGING for part in inside):
+        if node.name.startswith("__") and node.name not in DUNDERS:
+            yield "L28", node.lineno
+        elif node.name == "__init__" and any(isinstance(part, ast.Return) and part.value for part in ast.walk(node)):
             yield "L28", node.lineno
 
 
@@ -413,12 +395,14 @@ def faults(files):
         found += [(rule, name, line) for rule, line in file_names(name)]
     read = [File(name, text) for name, text in files.items()]
     methods = [node.name for file in read for node in file.of(ast.FunctionDef) if isinstance(node.above, ast.ClassDef)]
+    classes = [name for file in read for name in file.classes]
     kept = [node.attr for file in read for node in file.of(ast.Attribute) if not isinstance(node.ctx, ast.Load)]
     checks = (signs_and_sizes, top_of_module, lists_of_the_top, functions_and_classes, statements, expressions,
-              numbers_and_texts, names, calls, loops, own_methods, methods_with_underscores)
+              numbers_and_texts, calls, loops, own_methods, methods_with_underscores)
     for file in read:
         for check in checks:
             found += [(rule, file.name, line) for rule, line in check(file)]
         found += [(rule, file.name, line) for rule, line in imports(file, read)]
+        found += [(rule, file.name, line) for rule, line in names(file, classes)]
         found += [(rule, file.name, line) for rule, line in attributes(file, methods, kept)]
     return found + list(circles(read))

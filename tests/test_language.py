@@ -18,6 +18,8 @@ BROKEN = (
     ("L3", "len('x')\n"),
     ("L4", "def act(*rows):\n    return rows\n"),
     ("L4", "def act(a, *, b):\n    return b\n"),
+    ("L4", "def act(x):\n    def inner():\n        return x\n    return inner()\n"),
+    ("L4", "def act(x, y=[z for z in (1,)]):\n    return y\n"),
     ("L5", "class Kept:\n    count = 0\n"),
     ("L5", "class Kept:\n    def __hash__(self):\n        return 1\n"),
     ("L6", "def act(x):\n    del x\n"),
@@ -35,6 +37,8 @@ BROKEN = (
     ("L7", "def act(x):\n    return f'{x + 1}'\n"),
     ("L7", "def act(xs):\n    return [*xs]\n"),
     ("L7", "def act(x):\n    return (y := x)\n"),
+    ("L7", "def act(xs):\n    return sorted(xs, key=lambda x: 0)\n"),
+    ("L7", "X = b'a'\n"),
     ("L8", "def act(xs):\n    return filter(None, xs)\n"),
     ("L8", "def act(xs):\n    return unknown\n"),
     ("L10", "def act(x):\n" + "    x = x + 1\n" * 40),
@@ -60,13 +64,18 @@ BROKEN = (
     ("L17", "def act(x):\n    return chr(x)\n"),
     ("L18", "class Kept:\n    def __init__(self):\n        self.act = 1\n\n    def act(self):\n        return 1\n"),
     ("L18", "class Kept:\n    def act(self):\n        return 1\n\n\ndef make():\n    return [Kept]\n"),
+    ("L18", "from benchturns.turns import Row\n\n\ndef make():\n    return [Row]\n"),
     ("L19", "def act(x):\n    try:\n        return x\n    except Exception:\n        return 1\n"),
     ("L19", "def act(x):\n    try:\n        return x\n    except:\n        return 1\n"),
+    ("L19", "def act(x):\n    raise ValueError(x)\n"),
     ("L20", "def act(x, y):\n    return x is y\n"),
     ("L21", "def act(x: int):\n    return x\n"),
     ("L21", "def act(x):\n    y: int = x\n    return y\n"),
     ("L22", "def act(xs):\n    how = len\n    return how(xs)\n"),
+    ("L22", "def act(xs):\n    return sorted(xs, reverse=True)\n"),
+    ("L22", "def act(xs):\n    return min([len, sum])(xs)\n"),
     ("L23", "def act(xs):\n    return zip(xs, xs)\n"),
+    ("L23", "def act(n):\n    return [x for x in reversed(range(n))]\n"),
     ("L23", "def act(xs):\n    for x in xs:\n        xs.append(x)\n"),
     ("L23", "def act(xs):\n    for k, x in enumerate(xs):\n        xs[k] = x\n"),
     ("L24", "def act(xs):\n    for x in set(xs):\n        return x\n"),
@@ -107,7 +116,7 @@ def act(xs):
         kept.add_row(product(x, xs[k]))
     return [len(set(row)) for row in kept.rows] if kept is not None else TABLE[0][2](xs)
 '''
-TURNS = "def product(x, y):\n    return [y[goal] for goal in x]\n"
+TURNS = "def product(x, y):\n    return [y[goal] for goal in x]\n\n\nclass Row:\n    def act(self):\n        return 1\n"
 
 
 class KeepsToTheLanguage(unittest.TestCase):
